@@ -2,9 +2,8 @@
 
 import unittest
 
-from tests.helper import ask, begins, best, chances, last, result, test
+from tests.helper import HUGE, ask, begins, best, chances, last, result, test
 
-HUGE = 4294967295
 SURE = test([1, 2, 1, 0], [[0, 10], [10, 0]])
 
 

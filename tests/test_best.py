@@ -4,7 +4,7 @@ import unittest
 from math import floor
 from random import Random
 
-from tests.helper import Model, MILLION, ask, begins, best, last, result, test
+from tests.helper import Model, MILLION, ask, begins, best, chances, last, result, some_model, some_test, test
 
 SURE = test([1, 2, 1, 0], [[0, 10], [10, 0]])
 
@@ -80,46 +80,9 @@ class ByHandTest(unittest.TestCase):
                          [[0], [1], [1, 0, 1000000], [1, 0, 1000000], [0], [0, 0, 0], [0, 0, 0], [-3]])
 
 
-def some_test(random, whole, most_kinds, most_verdicts, most_cost):
-    kinds = random.choice((random.randint(1, most_kinds), most_kinds))
-    most_weight = random.choice((1, 3, 100))
-    pairs = []
-    for _ in range(kinds):
-        failing = random.choice((0, whole, whole // 2, random.randint(0, whole)))
-        pairs.append((random.randint(1, most_weight), failing))
-    verdicts = []
-    for _ in range(random.choice((random.randint(1, most_verdicts), most_verdicts))):
-        costs = [random.randint(0, most_cost) for _ in range(kinds)]
-        # A verdict that is right for one kind makes a try worth something.
-        costs[len(verdicts) % kinds] = 0
-        verdicts.append(costs)
-    return pairs, verdicts
-
-
-def some_model(random, most_tests, most_tries, most_kinds=4, most_verdicts=4):
-    model = Model(random.choice((2, 3, 4, 10, 20, random.randint(2, 20))), random.choice((0, 1, 1, 2, 7, 1000)),
-                  random.choice((random.randint(0, most_tries), most_tries)))
-    most_cost = random.choice((1, 4, 20, 100, 1000, 1000))
-    for _ in range(random.choice((random.randint(0, most_tests), most_tests))):
-        if model.tests and random.random() < 0.3:
-            model.tests.append(random.choice(model.tests))
-        else:
-            model.tests.append(some_test(random, model.whole, most_kinds, most_verdicts, most_cost))
-    if model.tests:
-        add_results(random, model)
-    return model
-
-
-def add_results(random, model):
-    for _ in range(random.randint(0, 4 - model.tries)):
-        further = model.results + [(random.randrange(len(model.tests)), random.randint(0, 1))]
-        if model.belief(further) is not None:
-            model.results = further
-
-
 class ByTheWordsTest(unittest.TestCase):
     def compare(self, model):
-        asked = ask(*model.calls(), best(), *[[4, 1, number, 0] for number in range(len(model.tests))])
+        asked = ask(*model.calls(), best(), *[chances(number) for number in range(len(model.tests))])
         wanted = [model.best()] + [model.chances(number) for number in range(len(model.tests))]
         self.assertEqual(asked[-len(wanted):], wanted, model.calls())
         return wanted[0]

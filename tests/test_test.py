@@ -2,9 +2,8 @@
 
 import unittest
 
-from tests.helper import ask, begins, best, chances, last, test
+from tests.helper import HUGE, ask, begins, best, chances, last, test
 
-HUGE = 4294967295
 PLAIN = test([1, 1], [[5]])
 
 

@@ -8,6 +8,10 @@ TEST = 1
 RESULT = 2
 BEST = 3
 CHANCES = 4
+FAILS = 5
+WORTH = 6
+WOULD = 7
+STATE = 8
 
 
 def answer_call(house, call, numbers, lists):
@@ -22,7 +26,15 @@ def answer_call(house, call, numbers, lists):
         return house.best()
     if call == CHANCES:
         return house.chances(numbers[0])
-    raise NotImplementedError(f"there is no call {call}")
+    if call == FAILS:
+        return house.fails(numbers[0])
+    if call == WORTH:
+        return house.worth(numbers[0])
+    if call == WOULD:
+        return house.would(numbers[0], numbers[1])
+    if call == STATE:
+        return house.state()
+    raise ValueError(f"there is no call {call}")
 
 
 def answers(calls):

@@ -46,31 +46,49 @@ class House:
         self.suspects.append(Suspect(kinds, verdicts))
         return [len(self.suspects)]
 
+    def why_not(self, number, passed):
+        """The refusal of such a result, or 0 where it can be taken."""
+        if number >= len(self.suspects):
+            return NO_SUCH_TEST
+        if self.left == 0:
+            return NO_TRIES_LEFT
+        suspect = self.suspects[number]
+        if sum(suspect.weights_after(suspect.weights, passed, self.whole)) == 0:
+            return CANNOT_BE
+        return 0
+
     def result(self, number, passed):
         """Takes the result of one try; passed is 0 where it failed."""
-        if number >= len(self.suspects):
-            return [NO_SUCH_TEST]
-        if self.left == 0:
-            return [NO_TRIES_LEFT]
-        suspect = self.suspects[number]
-        weights = suspect.weights_after(suspect.weights, passed != 0, self.whole)
-        if sum(weights) == 0:
-            return [CANNOT_BE]
-        suspect.weights = weights
+        refusal = self.why_not(number, passed != 0)
+        if refusal < 0:
+            return [refusal]
+        self.suspects[number].take_result(passed != 0, self.whole)
         self.left -= 1
         return [self.left]
 
-    def best(self):
-        """Tells how the best way begins, and what it costs on the average."""
-        ways = Ways(self.whole, self.try_cost, self.suspects)
-        weights = tuple([suspect.weights for suspect in self.suspects])
-        costs = ways.beginnings(weights, self.left)
+    def ways_on(self):
+        """The ways on with these tests."""
+        return Ways(self.whole, self.try_cost, self.suspects)
+
+    def weights_now(self):
+        """The weights of all tests, as the ways on take them."""
+        return tuple([suspect.weights for suspect in self.suspects])
+
+    def best_from(self, weights, tries):
+        """How the best way begins with such weights and so many tries left, and what it costs."""
+        ways = self.ways_on()
+        costs = ways.beginnings(weights, tries)
         least = min(costs)
-        told = least * MILLION // ways.scale(weights, self.left)
+        told = least * MILLION // ways.scale(weights, tries)
         choice = costs.index(least)
         if choice == 0:
-            return [0] + [suspect.best_verdict() for suspect in self.suspects] + [told]
+            verdicts = [suspect.best_verdict(own) for suspect, own in zip(self.suspects, weights)]
+            return [0] + verdicts + [told]
         return [1, choice - 1, told]
+
+    def best(self):
+        """Tells how the best way begins, and what it costs on the average."""
+        return self.best_from(self.weights_now(), self.left)
 
     def chances(self, number):
         """Tells how likely each kind of a test is now."""
@@ -78,3 +96,34 @@ class House:
             return [NO_SUCH_TEST]
         weights = self.suspects[number].weights
         return [len(weights)] + [weight * MILLION // sum(weights) for weight in weights]
+
+    def fails(self, number):
+        """Tells how likely the next try of a test fails."""
+        if number >= len(self.suspects):
+            return [NO_SUCH_TEST]
+        suspect = self.suspects[number]
+        failing = sum(suspect.weights_after(suspect.weights, False, self.whole))
+        return [failing * MILLION // (sum(suspect.weights) * self.whole)]
+
+    def worth(self, tries):
+        """Tells what the best way costs if just so many tries were left."""
+        if tries > self.left:
+            return [OUT_OF_RANGE]
+        ways = self.ways_on()
+        weights = self.weights_now()
+        return [ways.least(weights, tries) * MILLION // ways.scale(weights, tries)]
+
+    def would(self, number, passed):
+        """Tells what best would answer behind such a result; passed is 0 where it failed."""
+        refusal = self.why_not(number, passed != 0)
+        if refusal < 0:
+            return [refusal]
+        behind = self.ways_on().behind(number, passed != 0, self.weights_now())
+        return self.best_from(behind, self.left - 1)
+
+    def state(self):
+        """Tells how many tests there are, how many tries are left, and the results of each test."""
+        told = [len(self.suspects), self.left]
+        for suspect in self.suspects:
+            told.extend([suspect.failures, suspect.passes])
+        return told

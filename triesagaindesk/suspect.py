@@ -27,12 +27,22 @@ def is_well_formed(kinds, verdicts, whole):
 
 
 class Suspect:
-    """One test, with its weights now."""
+    """One test, with its weights now and how often it has failed and passed."""
 
     def __init__(self, kinds, verdicts):
         self.weights = tuple(kinds[0::2])
         self.failing = tuple(kinds[1::2])
         self.verdicts = [tuple(costs) for costs in verdicts]
+        self.failures = 0
+        self.passes = 0
+
+    def take_result(self, passed, whole):
+        """Takes the result of one try."""
+        self.weights = self.weights_after(self.weights, passed, whole)
+        if passed:
+            self.passes += 1
+        else:
+            self.failures += 1
 
     def weights_after(self, weights, passed, whole):
         """What such weights are behind one more result."""
@@ -44,7 +54,7 @@ class Suspect:
         """Of each verdict its cost on the average, times the sum of the weights."""
         return [sum([weight * cost for weight, cost in zip(weights, costs)]) for costs in self.verdicts]
 
-    def best_verdict(self):
-        """The first verdict that costs least on the average now."""
-        costs = self.verdict_costs(self.weights)
+    def best_verdict(self, weights):
+        """The first verdict that costs least on the average with such weights."""
+        costs = self.verdict_costs(weights)
         return costs.index(min(costs))
